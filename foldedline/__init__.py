@@ -1,0 +1,1 @@
+"""Rounds of a folded line."""
