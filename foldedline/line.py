@@ -79,33 +79,41 @@ def all_pieces(points):
 
 
 def ways_back(points, start, k):
-    """At m, for m from 0 to k: the pieces from which m coverings can lead to the piece start."""
+    """At m, for m from 0 to k: the pieces from which m coverings can lead to the piece start, none before it.
+
+    A loop may be begun at any of its pieces, so it is enough to find it where it begins at its first on the line.
+    """
     ways = [[start]]
     for step in range(k):
         goals = ways[step]
-        ways.append([piece for piece in all_pieces(points) if covers_some(points, piece, goals)])
+        ways.append([piece for piece in all_pieces(points)[start:] if covers_some(points, piece, goals)])
     return ways
 
 
-def place_of_loop(points, loop):
-    """A place that goes through the pieces of loop, each covering the one behind it, to where it was: p and q.
+def one_step_more(points, piece, slope, shift):
+    """If x was put onto slope * x + shift, which is in the piece: the slope and the shift behind one step more."""
+    steep = points[piece + 1] - points[piece]
+    return [steep * slope, steep * (shift - piece) + points[piece]]
 
-    Along the loop x is put onto slope * x + shift.
-    """
-    slope = 1
-    shift = 0
-    for piece in loop:
-        steep = points[piece + 1] - points[piece]
-        slope = steep * slope
-        shift = steep * (shift - piece) + points[piece]
-    # Slope 1: each piece of the loop is put onto just the one behind it, and the first at last onto itself as it lies.
-    # All its places are then where they were; a third of the way in is never a middle, about which a piece is
-    # turned, so it comes back no sooner than nearly all of them.
-    if slope == 1:
-        return [3 * loop[0] + 1, 3]
+
+def place_put_back(slope, shift):
+    """The one place that is put onto itself where x is put onto slope * x + shift, the slope not 1: p and q."""
     if slope > 1:
         return [-shift, slope - 1]
     return [shift, 1 - slope]
+
+
+def place_of_loop(points, loop):
+    """A place that goes through the pieces of loop, each covering the one behind it, to where it was: p and q."""
+    along = [1, 0]
+    for piece in loop:
+        along = one_step_more(points, piece, along[0], along[1])
+    # Slope 1: each piece of the loop is put onto just the one behind it, and the first at last onto itself as it lies.
+    # All its places are then where they were; a third of the way in is never a middle, about which a piece is
+    # turned, so it comes back no sooner than nearly all of them.
+    if along[0] == 1:
+        return [3 * loop[0] + 1, 3]
+    return place_put_back(along[0], along[1])
 
 
 def loop_comes_back(points, loop, ways, k):

@@ -60,6 +60,31 @@ def places_back(points, k):
     return sorted(found)
 
 
+def endless(points, k):
+    """Whether a lap lies on the diagonal of which all but some places come back in k steps and no sooner."""
+    corners = laps(points, k)
+    for (x0, y0), (x1, y1) in zip(corners, corners[1:]):
+        if x0 == y0 and x1 == y1 and comes_back_in(points, x0 + (x1 - x0) * Fraction(1, 7)) == k:
+            return True
+    return False
+
+
+def rounds(points, k):
+    """All rounds of k steps in order, or None if there are endlessly many."""
+    if endless(points, k):
+        return None
+    found = []
+    for x in places_back(points, k):
+        places = [again(points, x, step) for step in range(k)]
+        if x == min(places):
+            found.append(places)
+    return found
+
+
+def ranks(places):
+    return [sorted(places).index(x) for x in places]
+
+
 def has(points, k):
     return 1 if places_back(points, k) else 0
 
@@ -75,6 +100,13 @@ def comes(points, x):
 def covers(points, i, j):
     low, high = sorted([points[i], points[i + 1]])
     return 1 if j in range(low, high) else 0
+
+
+def order_up_to(most):
+    """The numbers up to most, each ahead of those that it brings."""
+    powers = [2 ** exponent for exponent in range(most.bit_length()) if 2 ** exponent <= most]
+    order = [power * odd for power in powers for odd in range(3, most + 1, 2) if power * odd <= most]
+    return order + powers[::-1]
 
 
 def told(x):

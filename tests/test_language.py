@@ -1,6 +1,7 @@
 """The package's files keep to the small part of Python that is asked for, so far as a walk over them can see."""
 
 import ast
+import builtins
 import pathlib
 import re
 import unittest
@@ -79,7 +80,7 @@ class Language(unittest.TestCase):
         for path in files():
             tree = ast.parse(path.read_text(encoding="utf-8"))
             bound = names_bound(tree)
-            self.assertEqual(sorted(bound & OWN_NAMES), [], path)
+            self.assertEqual(sorted(bound & (OWN_NAMES | set(dir(builtins)))), [], path)
             self.assertEqual([name for name in sorted(bound) if name.startswith("_") and name != "__init__"], [], path)
             read = {node.id for node in ast.walk(tree) if isinstance(node, ast.Name)}
             self.assertEqual(sorted(read - bound - OWN_NAMES), [], path)

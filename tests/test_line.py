@@ -46,7 +46,7 @@ class Loops(unittest.TestCase):
                 ways = ways_back(points, start, 4)
                 self.assertEqual(ways[0], [start])
                 for fewer, more in zip(ways, ways[1:]):
-                    found = [i for i in pieces if any(slow.covers(points, i, j) for j in fewer)]
+                    found = [i for i in pieces if i >= start and any(slow.covers(points, i, j) for j in fewer)]
                     self.assertEqual(more, found)
 
 

@@ -1,8 +1,10 @@
-"""Point 1: begin, set, row."""
+"""Point 1: begin, set, row, turn, state."""
 
+import itertools
 import unittest
 
-from asking import ask, ask_of, begin, covers, has, line, put, row, set_point, where_all_are
+from asking import (ask, ask_of, begin, covers, has, line, put, round_at, rounds, row, set_point, slope, state, turn,
+                    where_all_are)
 
 GREATEST = 4294967295
 
@@ -88,6 +90,65 @@ class Row(unittest.TestCase):
     def test_what_is_asked_behind_follows(self):
         told = ask(begin(2), has(3), covers(0, 1), row(1, 2, 0), has(3), covers(0, 1), row(0, 0, 0), has(3), covers(0, 1))
         self.assertEqual(told, [[0], [0], [0], [0], [1], [1], [0], [0], [0]])
+
+
+class State(unittest.TestCase):
+    def test_each_point_put_onto_itself(self):
+        for n in range(1, 7):
+            self.assertEqual(ask(begin(n), state()), [[0], [n] + list(range(n + 1))])
+
+    def test_how_many_pieces_then_where_each_point_is_put(self):
+        for points in ((1, 0), (0, 0), (2, 0, 1), (3, 1, 1, 0), (6, 0, 5, 1, 4, 2, 3)):
+            self.assertEqual(ask_of(points, state()), [[len(points) - 1] + list(points)])
+
+    def test_behind_each_change(self):
+        told = ask(begin(2), row(1, 2, 0), state(), set_point(2, 2), state(), turn(), state(), begin(1), state())
+        self.assertEqual(told[2::2], [[2, 1, 2, 0], [2, 1, 2, 2], [2, 0, 0, 1], [1, 0, 1]])
+
+    def test_asked_twice(self):
+        self.assertEqual(ask_of((2, 0, 1), state(), state()), [[2, 2, 0, 1]] * 2)
+
+    def test_not_begun(self):
+        self.assertEqual(ask(state(), begin(7), state()), [[-11], [-22], [-11]])
+
+
+class Turn(unittest.TestCase):
+    def test_an_even_number_of_pieces(self):
+        self.assertEqual(ask_of((2, 0, 1), turn(), state()), [[0], [2, 1, 2, 0]])
+        self.assertEqual(ask_of((0, 0, 0, 0, 3), turn(), state()), [[0], [4, 1, 4, 4, 4, 4]])
+
+    def test_an_odd_number_of_pieces(self):
+        self.assertEqual(ask_of((3, 1, 1, 0), turn(), state()), [[0], [3, 3, 2, 2, 0]])
+        self.assertEqual(ask_of((0, 3, 3, 1, 5, 4), turn(), state()), [[0], [5, 1, 0, 4, 2, 2, 5]])
+
+    def test_one_piece(self):
+        for points, turned in (((0, 1), (0, 1)), ((1, 0), (1, 0)), ((0, 0), (1, 1)), ((1, 1), (0, 0))):
+            self.assertEqual(ask_of(points, turn(), state()), [[0], [1] + list(turned)])
+
+    def test_each_point_put_onto_itself(self):
+        for n in range(1, 7):
+            self.assertEqual(ask(begin(n), turn(), state()), [[0], [0], [n] + list(range(n + 1))])
+
+    def test_all_put_onto_one(self):
+        self.assertEqual(ask_of((0, 0, 0, 0), turn(), state()), [[0], [3, 3, 3, 3, 3]])
+
+    def test_all_small_lines_once_and_twice(self):
+        for n in (1, 2, 3):
+            for points in itertools.product(range(n + 1), repeat=n + 1):
+                turned = [0] * (n + 1)
+                for point, goal in enumerate(points):
+                    turned[n - point] = n - goal
+                told = ask_of(points, turn(), state(), turn(), state())
+                self.assertEqual(told, [[0], [n] + turned, [0], [n] + list(points)])
+
+    def test_what_is_asked_behind_follows(self):
+        looks = [put(1, 3), slope(0), covers(0, 2), rounds(1), round_at(1, 0)]
+        told = ask_of((2, 2, 0, 1), *looks, turn(), *looks)
+        self.assertEqual(told[:5], [[0, 2, 1], [0, 0], [0], [1], [1, 4, 3]])
+        self.assertEqual(told[5:], [[0], [0, 7, 3], [0, 1], [1], [1], [1, 5, 3]])
+
+    def test_not_begun(self):
+        self.assertEqual(ask(turn(), begin(0), turn(), begin(1), turn()), [[-11], [-22], [-11], [0], [0]])
 
 
 if __name__ == "__main__":

@@ -1,26 +1,15 @@
-"""Point 2: put, way, comes, covers."""
+"""Point 2: put, way, comes, covers, slope."""
 
 import itertools
-import random
 import unittest
 from fractions import Fraction
 
 import slow
-from asking import ask, ask_of, begin, comes, covers, put, way
+from asking import ask, ask_of, begin, comes, covers, put, set_point, slope, some_lines, way
 
 GREATEST = 4294967295
 NOT_PLACES = ((0, 0), (1, 0), (0, 41), (1, 41), (3, 1), (5, 2), (81, 40), (GREATEST, 1), (1, GREATEST),
               (GREATEST, GREATEST), (GREATEST, 0), (GREATEST, 40))
-
-
-def some_lines(count):
-    """All lines of one and two pieces, and count others of each number of pieces up to six."""
-    lines = list(itertools.product(range(2), repeat=2)) + list(itertools.product(range(3), repeat=3))
-    source = random.Random(5)
-    for n in range(3, 7):
-        for _ in range(count):
-            lines.append(tuple(source.randrange(n + 1) for _ in range(n + 1)))
-    return lines
 
 
 def some_places(n):
@@ -57,7 +46,7 @@ class Put(unittest.TestCase):
             self.assertEqual(ask_of((2, 0, 1), put(p, q)), [[-22]])
 
     def test_as_found_slowly(self):
-        for points in some_lines(3):
+        for points in some_lines(3, 5):
             places = some_places(len(points) - 1)
             found = [[0] + slow.told(slow.image(points, Fraction(p, q))) for p, q in places]
             for start in range(0, len(places), 300):
@@ -89,7 +78,7 @@ class Way(unittest.TestCase):
             self.assertEqual(ask_of((2, 0, 1), way(p, q, 1), way(p, q, 0)), [[-22]] * 2)
 
     def test_as_found_slowly(self):
-        for points in some_lines(3):
+        for points in some_lines(3, 5):
             for p, q in ((0, 1), (1, 2), (5, 12), (len(points) - 1, 1), (37, 40)):
                 found = [20]
                 for k in range(20):
@@ -135,14 +124,14 @@ class Comes(unittest.TestCase):
             self.assertEqual(ask_of((2, 0, 1), comes(p, q)), [[-22]])
 
     def test_as_found_slowly(self):
-        for points in some_lines(2):
+        for points in some_lines(2, 5):
             n = len(points) - 1
             places = [(p, q) for q in (1, 5, 8, 37) for p in range(0, n * q + 1, 1 + q // 8)]
             found = [slow.comes(points, Fraction(p, q)) for p, q in places]
             self.assertEqual(ask_of(points, *[comes(p, q) for p, q in places]), found)
 
     def test_behind_so_many_steps_it_is_in_a_round_of_so_many(self):
-        for points in some_lines(2):
+        for points in some_lines(2, 5):
             for p, q in ((1, 3), (1, 5), (2, 9), (7, 8)):
                 told = ask_of(points, comes(p, q), way(p, q, 20))
                 before, steps = told[0]
@@ -173,10 +162,46 @@ class Covers(unittest.TestCase):
             self.assertEqual(ask_of((0, 3, 0, 3), covers(i, j)), [[-2]])
 
     def test_as_found_slowly(self):
-        for points in some_lines(20):
+        for points in some_lines(20, 5):
             pairs = [(i, j) for i in range(len(points) - 1) for j in range(len(points) - 1)]
             found = [[slow.covers(points, i, j)] for i, j in pairs]
             self.assertEqual(ask_of(points, *[covers(i, j) for i, j in pairs]), found)
+
+
+class Slope(unittest.TestCase):
+    def test_rising_falling_and_level(self):
+        self.assertEqual(ask_of((1, 3, 0, 0), slope(0), slope(1), slope(2)), [[0, 2], [0, -3], [0, 0]])
+
+    def test_steepest(self):
+        told = ask_of((6, 0, 6, 0, 6, 0, 6), *[slope(i) for i in range(6)])
+        self.assertEqual(told, [[0, -6], [0, 6]] * 3)
+
+    def test_one_piece(self):
+        for points, told in (((0, 1), 1), ((1, 0), -1), ((0, 0), 0), ((1, 1), 0)):
+            self.assertEqual(ask_of(points, slope(0)), [[0, told]])
+
+    def test_each_point_put_onto_itself(self):
+        self.assertEqual(ask(begin(6), *[slope(i) for i in range(6)])[1:], [[0, 1]] * 6)
+
+    def test_all_put_onto_one(self):
+        self.assertEqual(ask_of((2, 2, 2), slope(0), slope(1)), [[0, 0], [0, 0]])
+
+    def test_the_last_point_moved(self):
+        self.assertEqual(ask(begin(3), set_point(3, 0), slope(2), slope(1))[2:], [[0, -2], [0, 1]])
+
+    def test_no_such_piece(self):
+        for i in (3, 4, GREATEST):
+            self.assertEqual(ask_of((0, 3, 0, 3), slope(i)), [[-2]])
+        self.assertEqual(ask_of((1, 0), slope(1)), [[-2]])
+
+    def test_not_begun(self):
+        for i in (0, 6, GREATEST):
+            self.assertEqual(ask(slope(i), begin(7), slope(i)), [[-11], [-22], [-11]])
+
+    def test_all_lines_of_three_pieces(self):
+        for points in itertools.product(range(4), repeat=4):
+            told = ask_of(points, slope(0), slope(1), slope(2))
+            self.assertEqual(told, [[0, points[i + 1] - points[i]] for i in range(3)])
 
 
 if __name__ == "__main__":
